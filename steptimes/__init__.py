@@ -1,0 +1,1 @@
+"""Steps in time: nets of steps with limits and natures."""

@@ -1,0 +1,1 @@
+"""Tests of steptimes, for python3 -m unittest."""
