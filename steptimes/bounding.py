@@ -39,12 +39,18 @@ def bare_row(i, size):
     return [0 if j in (0, i) else None for j in range(size)]
 
 
-def told_bounds(net):
+def limit_bounds(net):
+    """The bounds that are told but for the natures."""
     size = len(net.names)
     bounds = [bare_row(i, size) for i in range(size)]
     for limit in net.limits:
         put_lesser(bounds, limit.first, limit.second, limit.most)
         put_lesser(bounds, limit.second, limit.first, negated(limit.least))
+    return bounds
+
+
+def told_bounds(net):
+    bounds = limit_bounds(net)
     for nature in net.natures:
         put_lesser(bounds, nature.cause, nature.own, nature.hi)
         put_lesser(bounds, nature.own, nature.cause, -nature.lo)

@@ -85,14 +85,70 @@ def reduced(steps, limits, natures):
     return None
 
 
-class Game:
-    """Whether we can keep all limits and do all steps whatever nature does, by trying every play."""
+def sure_with(steps, limits, natures, i, j, w):
+    """If the net is surely kept with one limit more: j at most w after i."""
+    limit = (i, j, None, w) if w >= 0 else (j, i, -w, None)
+    return reduced(steps, limits + [limit], natures) is not None
 
-    def __init__(self, steps, limits, natures):
+
+def nature_moves(natures, times, tick):
+    """The steps that nature may do at the tick, and those that it must."""
+    due = [row for row in natures if times[row[1]] is None and times[row[0]] is not None]
+    may = [c for a, c, lo, hi in due if times[a] + lo <= tick <= times[a] + hi]
+    must = [c for a, c, lo, hi in due if tick >= times[a] + hi]
+    return may, must
+
+
+def broken(limits, times):
+    """Which limits between steps that are done aren't kept."""
+    found = []
+    for a, b, least, most in limits:
+        if times[a] is not None and times[b] is not None:
+            low = -NONE if least is None else least
+            high = NONE if most is None else most
+            if not low <= times[b] - times[a] <= high:
+                found.append((a, b, least, most))
+    return found
+
+
+def desk_does(steps, natures, bounds, waits, times, tick):
+    """What the desk does at the tick: steps are taken away one at a time."""
+    owns = [c for a, c, lo, hi in natures]
+    left = {p for p in range(steps) if p not in owns and times[p] is None}
+
+    def can(p):
+        for j in range(steps):
+            w = bounds[p, j]
+            if j == p or w > 0:
+                continue
+            if times[j] is None and not (w == 0 and j in left):
+                return False
+            if times[j] is not None and tick < times[j] - w:
+                return False
+        for k, (a, c, lo, hi) in enumerate(natures):
+            w = waits[k, p]
+            if w < 0 and times[c] is None and (times[a] is None or tick < times[a] - w):
+                return False
+        return True
+
+    while not all(can(p) for p in left):
+        left.remove(next(p for p in left if not can(p)))
+    return sorted(left)
+
+
+class Game:
+    """Whether we can keep all limits and do all steps whatever nature does, by trying every play.
+
+    The last tick is told, or it is one that no play needs to go beyond.
+    """
+
+    def __init__(self, steps, limits, natures, last=None):
         self.limits = limits
         self.natures = natures
         self.ours = [i for i in range(1, steps) if i not in [c for a, c, lo, hi in natures]]
         self.last = sum(max(least or 0, most or 0) for a, b, least, most in limits) + sum(row[3] for row in natures)
+        if last is not None:
+            self.last = last
         self.seen = {}
         self.begin = (0,) + (None,) * (steps - 1)
 
@@ -124,10 +180,16 @@ class Game:
             return True
         if tick > self.last:
             return False
-        due = [row for row in self.natures if times[row[1]] is None and times[row[0]] is not None]
-        must = [c for a, c, lo, hi in due if times[a] + hi == tick]
-        may = [c for a, c, lo, hi in due if times[a] + lo <= tick < times[a] + hi]
-        return all(self.we_win(tick, done(times, must + list(some), tick)) for some in subsets(may))
+        may, must = nature_moves(self.natures, times, tick)
+        free = [c for c in may if c not in must]
+        return all(self.we_win(tick, done(times, must + list(some), tick)) for some in subsets(free))
+
+
+class PlainGame(Game):
+    """The same without looking ahead: a limit is spoilt when both its steps are done and it's broken."""
+
+    def spoilt(self, tick, times):
+        return bool(broken(self.limits, times))
 
 
 def subsets(steps):

@@ -6,6 +6,9 @@ PRINT = [1]
 STEPS = [2]
 WEAK = [3]
 SURE = [4]
+BEGIN = [10]
+STATE = [13]
+KEPT = [14]
 
 
 def net(text):
@@ -23,6 +26,26 @@ def wait(k, i):
 
 def far(i, j):
     return [7, i, j]
+
+
+def tightest(i, j):
+    return [8, i, j]
+
+
+def game(h):
+    return [9, h]
+
+
+def tick(*c):
+    return [11, len(c)] + list(c)
+
+
+def idle(m):
+    return [12, m]
+
+
+def iflimit(i, j, w):
+    return [15, i, j, w]
 
 
 def ask(*calls):
